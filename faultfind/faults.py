@@ -35,6 +35,8 @@ class Cable:
         self.sections = []
         self.low = 0
         self.high = 0
+        self.openings = 0
+        self.spent = 0
 
 
 def resistance(part):
@@ -57,11 +59,17 @@ def is_cost(opens):
     return 1 <= opens and opens <= MOST_OPENS
 
 
+def start_over(cable):
+    cable.low = 0
+    cable.high = len(cable.sections)
+    cable.openings = 0
+    cable.spent = 0
+
+
 def begin(cable):
     cable.begun = True
     cable.sections = []
-    cable.low = 0
-    cable.high = 0
+    start_over(cable)
     return [0]
 
 
@@ -69,6 +77,7 @@ def section(cable, metres, each, opens):
     number = len(cable.sections)
     if metres < 1 or metres > MOST_METRES or each > MOST_EACH or not is_cost(opens):
         return [OUT_OF_BOUNDS]
+    # That tells of openings too: each leaves at least one section out.
     if cable.high - cable.low < number:
         return [NOT_IN_ALL]
     if number == MOST_SECTIONS:
@@ -137,6 +146,38 @@ def where(cable):
     return [cable.high - cable.low] + may_be(cable)
 
 
+def can_be_opened(cable, i):
+    return cable.low <= i and i + 1 < cable.high
+
+
+# The call that the document names open, which is a name of Python's own.
+def open_at(cable, i, side):
+    if not can_be_opened(cable, i):
+        return [NO_SUCH]
+    if side > 1:
+        return [OUT_OF_BOUNDS]
+    if side == 0:
+        cable.high = i + 1
+    else:
+        cable.low = i + 1
+    cable.openings += 1
+    # Kept as a sum, since what an opening costs may be changed later on.
+    cable.spent += cable.sections[i].opens
+    return [cable.high - cable.low]
+
+
+def found(cable):
+    if cable.high - cable.low != 1:
+        return [NO_ANSWER]
+    return [cable.low]
+
+
+def again(cable):
+    was = cable.spent
+    start_over(cable)
+    return [was]
+
+
 # One number for each section that may be opened first, from low on; best tells of all shorter spans already.
 def costs_by_first(best, prices, low, high):
     return [prices[i] + max(best[(low, i + 1)], best[(i + 1, high)]) for i in range(low, high - 1)]
@@ -151,32 +192,106 @@ def best_costs(prices):
     return best
 
 
-def costs_now(cable):
-    prices = [part.opens for part in cable.sections]
-    return costs_by_first(best_costs(prices), prices, cable.low, cable.high)
+# index finds the lesser section where several cost alike.
+def opens_first(best, prices, low, high):
+    costs = costs_by_first(best, prices, low, high)
+    return low + costs.index(min(costs))
+
+
+def prices_of(cable):
+    return [part.opens for part in cable.sections]
 
 
 def least(cable):
-    return [min(costs_now(cable), default=0)]
+    return [best_costs(prices_of(cable))[(cable.low, cable.high)]]
 
 
 def first(cable):
-    costs = costs_now(cable)
-    if len(costs) == 0:
+    if cable.high - cable.low < 2:
         return [NO_ANSWER]
-    # index finds the lesser section where several cost alike.
-    return [cable.low + costs.index(min(costs))]
+    prices = prices_of(cable)
+    return [opens_first(best_costs(prices), prices, cable.low, cable.high)]
 
 
 def would(cable, i):
-    if i < cable.low or i + 1 >= cable.high:
+    if not can_be_opened(cable, i):
         return [NO_SUCH]
-    return [costs_now(cable)[i - cable.low], i + 1 - cable.low, cable.high - i - 1]
+    prices = prices_of(cable)
+    costs = costs_by_first(best_costs(prices), prices, cable.low, cable.high)
+    return [costs[i - cable.low], i + 1 - cable.low, cable.high - i - 1]
 
 
-WITH_NONE = {0: begin, 6: where, 7: least, 8: first}
-WITH_ONE = {9: would}
-WITH_TWO = {2: cost, 3: measure, 4: other, 5: could}
+def fewest(cable):
+    size = cable.high - cable.low
+    return [best_costs([1] * size)[(0, size)]]
+
+
+# On either side of an opening the best way goes on as that side's own best way.
+def spends(cable, t):
+    low = cable.low
+    high = cable.high
+    if t < low or t >= high:
+        return [NO_SUCH]
+    prices = prices_of(cable)
+    best = best_costs(prices)
+    total = 0
+    while high - low > 1:
+        i = opens_first(best, prices, low, high)
+        total += prices[i]
+        if t <= i:
+            high = i + 1
+        else:
+            low = i + 1
+    return [total]
+
+
+def sum_of_metres(parts):
+    return sum([part.metres for part in parts])
+
+
+def all_metres(cable):
+    return [sum_of_metres(cable.sections), all_resistance(cable.sections)]
+
+
+def resist(cable, i):
+    if i >= len(cable.sections):
+        return [NO_SUCH]
+    return [resistance(cable.sections[i]), ahead(cable, i), behind(cable, i)]
+
+
+# As many metres of one section as have that much resistance together, a begun metre taken whole.
+def metres_for(part, much):
+    if part.each == 0:
+        return 0
+    return (much + part.each - 1) // part.each
+
+
+def point(cable, r):
+    parts = cable.sections
+    if len(parts) == 0 or all_resistance(parts) < r:
+        return [NO_ANSWER]
+    i = 0
+    while all_resistance(parts[:i + 1]) < r:
+        i += 1
+    return [sum_of_metres(parts[:i]) + metres_for(parts[i], r - ahead(cable, i))]
+
+
+def look(cable, i):
+    if i >= len(cable.sections):
+        return [NO_SUCH]
+    part = cable.sections[i]
+    return [part.metres, part.each, part.opens]
+
+
+def sums(cable):
+    return [len(cable.sections), cable.low, cable.high, cable.openings, cable.spent]
+
+
+WITH_NONE = {
+    0: begin, 6: where, 7: least, 8: first, 10: fewest, 13: found, 14: again, 15: all_metres, 19: sums,
+}
+WITH_ONE = {9: would, 11: spends, 16: resist, 17: point, 18: look}
+WITH_TWO = {2: cost, 3: measure, 4: other, 5: could, 12: open_at}
 WITH_THREE = {1: section}
 
 

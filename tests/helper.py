@@ -5,6 +5,8 @@ from faultfind.faults import answers
 NUMBERS = {
     "begin": 0, "section": 1, "cost": 2, "measure": 3, "other": 4,
     "could": 5, "where": 6, "least": 7, "first": 8, "would": 9,
+    "fewest": 10, "spends": 11, "open": 12, "found": 13, "again": 14,
+    "metres": 15, "resist": 16, "point": 17, "look": 18, "sums": 19,
 }
 TOP = 4294967295
 
@@ -43,3 +45,8 @@ def behind(made, *calls):
 
 def last(made, *calls):
     return behind(made, *calls)[-1]
+
+
+def state(sections):
+    """The calls that tell all there is to know of a cable of so many sections."""
+    return [("sums",), ("where",), ("metres",)] + [("look", i) for i in range(sections)]

@@ -7,11 +7,13 @@ import unittest
 
 import faultfind.faults
 from faultfind.faults import answers
-from tests.helper import apart, cable, flat
+from tests.helper import NUMBERS, apart, cable, flat
 
 ALL = cable((10, 2, 5), (10, 2, 3), (10, 0, 4), (10, 2, 4)) + [
     ("cost", 1, 2), ("could", 3, 3), ("measure", 5, 45), ("other", 0, 45), ("where",), ("least",), ("first",),
-    ("would", 1), ("would", 99), ("section", 0, 0, 0), ("measure", 9, 1), ("begin",), ("where",)]
+    ("would", 1), ("would", 99), ("section", 0, 0, 0), ("measure", 9, 1), ("fewest",), ("spends", 1), ("spends", 9),
+    ("open", 1, 0), ("open", 0, 1), ("open", 0, 2), ("found",), ("metres",), ("resist", 1), ("point", 9), ("look", 1),
+    ("sums",), ("again",), ("found",), ("begin",), ("where",)]
 
 
 class Watched(list):
@@ -35,6 +37,16 @@ class Interface(unittest.TestCase):
         calls = [0, 1, 10, 2, 5, 1, 10, 2, 3, 1, 10, 2, 4, 3, 25, 60, 6, 8]
         self.assertEqual(answers(calls), [1, 0, 1, 0, 1, 1, 1, 2, 1, 2, 3, 2, 1, 2, 1, 1])
         self.assertEqual(answers(calls + [9, 1, 9, 2, 6])[-10:], [3, 3, 1, 1, 1, -2, 3, 2, 1, 2])
+
+    def test_each_call_has_its_number(self):
+        calls = [0, 1, 10, 2, 5, 1, 10, 3, 6, 1, 10, 4, 7]
+        told = apart(answers(calls + [10, 11, 2, 12, 0, 1, 13, 19, 14, 15, 16, 1, 17, 25, 18, 2, 19]))[4:]
+        self.assertEqual(told, [[2], [11], [2], [-33], [3, 1, 3, 1, 5], [5], [30, 90], [30, 20, 40], [12], [10, 4, 7],
+                                [3, 0, 3, 0, 0]])
+
+    def test_each_call_is_asked_here(self):
+        self.assertEqual({call[0] for call in ALL}, set(NUMBERS))
+        self.assertEqual(sorted(NUMBERS.values()), list(range(20)))
 
     def test_whole_numbers_in_a_plain_list(self):
         told = answers(flat(ALL))
@@ -60,6 +72,7 @@ class Interface(unittest.TestCase):
         self.assertEqual(answers([6]), [1, -11])
         self.assertEqual(answers([0, 6]), [1, 0, 1, 0])
         self.assertEqual(answers(flat(ALL)), told)
+        self.assertEqual(answers([0, 19]), [1, 0, 5, 0, 0, 0, 0, 0])
         answers(flat(cable((1, 1, 1))))
         self.assertEqual(answers([6]), [1, -11])
 

@@ -1,6 +1,7 @@
 """The package keeps to the part of Python it is written in, as far as a plain look can tell."""
 
 import ast
+import builtins
 import pathlib
 import re
 import unittest
@@ -15,6 +16,23 @@ ALLOWED_NODES = (
     ast.Constant, ast.List, ast.Tuple, ast.Dict, ast.ListComp, ast.comprehension, ast.BinOp, ast.UnaryOp, ast.BoolOp,
     ast.Compare, ast.IfExp, ast.operator, ast.unaryop, ast.boolop, ast.cmpop, ast.expr_context)
 OUT = r"\b(type|typing|enum|Enum|Flag|Generic|Protocol|ABC|namedtuple|NamedTuple)\b|dataclass|overload|contextmanager"
+
+NOWHERE = {"register", "mro", "elements", "open", "input", "version_info", "with_traceback", "add_note"}
+METHODS = {"append", "clear", "copy", "count", "extend", "get", "index", "insert", "items", "keys", "pop", "remove",
+           "reverse", "setdefault", "update", "values", "bit_length"}
+
+
+def bound(tree):
+    """Each name that is given a meaning: a def, a class, a parameter, a local, a value of an object."""
+    for node in ast.walk(tree):
+        if isinstance(node, (ast.FunctionDef, ast.ClassDef)):
+            yield node.name
+        if isinstance(node, ast.arg):
+            yield node.arg
+        if isinstance(node, ast.Name) and isinstance(node.ctx, ast.Store):
+            yield node.id
+        if isinstance(node, ast.Attribute):
+            yield node.attr
 
 
 class Language(unittest.TestCase):
@@ -48,6 +66,37 @@ class Language(unittest.TestCase):
             for node in ast.walk(tree):
                 if isinstance(node, ast.Call) and isinstance(node.func, ast.Name):
                     self.assertIn(node.func.id, own | ALLOWED_CALLS)
+
+    def test_no_name_of_pythons_own_has_another_meaning(self):
+        for path, tree in self.trees():
+            for name in bound(tree):
+                self.assertNotIn(name, dir(builtins), path)
+                self.assertNotIn(name, NOWHERE, path)
+                self.assertRegex(name, r"\A([A-Za-z][A-Za-z0-9_]*|__init__)\Z", path)
+
+    def test_only_allowed_methods_are_called(self):
+        for path, tree in self.trees():
+            for node in ast.walk(tree):
+                if isinstance(node, ast.Call) and isinstance(node.func, ast.Attribute):
+                    self.assertIn(node.func.attr, METHODS, (path, node.lineno))
+
+    def test_each_name_of_a_files_top_once(self):
+        for path, tree in self.trees():
+            names = []
+            for node in tree.body:
+                if isinstance(node, (ast.FunctionDef, ast.ClassDef)):
+                    names.append(node.name)
+                elif isinstance(node, ast.Assign):
+                    self.assertEqual(len(node.targets), 1)
+                    names.append(node.targets[0].id)
+            self.assertEqual(len(names), len(set(names)), path)
+
+    def test_one_target_in_an_assignment(self):
+        for path, tree in self.trees():
+            for node in ast.walk(tree):
+                if isinstance(node, ast.Assign):
+                    self.assertEqual(len(node.targets), 1, (path, node.lineno))
+                    self.assertNotIsInstance(node.targets[0], ast.Tuple, (path, node.lineno))
 
     def test_words_that_stand_nowhere(self):
         for path in FILES:
